@@ -1,8 +1,8 @@
 """The calls on one disputation, told as whole numbers, and their answers."""
 
-from madeconceded.worlds import CONCEDED, DENIED, DOUBTED, MOST_LETTERS
-from madeconceded.worlds import all_that_can_be_made, all_worlds, bearing, can_be_made, how_many
-from madeconceded.worlds import right_answer, shortest_row, standing_behind
+from madeconceded.worlds import AGAINST, CONCEDED, DENIED, DOUBTED, MOST_LETTERS
+from madeconceded.worlds import all_that_can_be_made, all_worlds, bearing, can_be_made, changes_something
+from madeconceded.worlds import fewest_worlds, how_many, right_answer, rows_of_stock, shortest_row, standing_behind
 
 BEGIN = 0
 STOCK = 4
@@ -124,14 +124,18 @@ def deny(disputation, arguments):
     return tell_row(disputation, DENIED, arguments[0])
 
 
-def may(disputation, arguments):
-    proposition = arguments[0]
-    check_proposition(disputation.letters, proposition)
+def added_answers(disputation, proposition):
     added = 0
     for wanted in (DENIED, CONCEDED, DOUBTED):
         if can_be_made(disputation.known, disputation.standing, wanted, proposition):
             added += 1 << wanted
-    return [added]
+    return added
+
+
+def may(disputation, arguments):
+    proposition = arguments[0]
+    check_proposition(disputation.letters, proposition)
+    return [added_answers(disputation, proposition)]
 
 
 def those_that_can_be_made(disputation, wanted):
@@ -142,24 +146,94 @@ def counts(disputation, arguments):
     return [len(those_that_can_be_made(disputation, wanted)) for wanted in (CONCEDED, DENIED, DOUBTED)]
 
 
-def nth(disputation, arguments):
-    wanted = arguments[0]
-    place = arguments[1]
-    check_answer(wanted)
-    found = those_that_can_be_made(disputation, wanted)
+def pick(found, place):
     if place >= len(found):
         raise CannotBe()
     return [found[place]]
 
 
-CALLS = (begin, propose, stand, learn, put_stock, tell_answer, concede, deny, may, counts, nth)
+def nth(disputation, arguments):
+    check_answer(arguments[0])
+    return pick(those_that_can_be_made(disputation, arguments[0]), arguments[1])
+
+
+def false_that_can_be_conceded(disputation):
+    found = those_that_can_be_made(disputation, CONCEDED)
+    return [proposition for proposition in found if bearing(disputation.known, proposition) == AGAINST]
+
+
+def count_false(disputation, arguments):
+    return [len(false_that_can_be_conceded(disputation))]
+
+
+def nth_false(disputation, arguments):
+    return pick(false_that_can_be_conceded(disputation), arguments[0])
+
+
+def surely(disputation, arguments):
+    wanted = arguments[0]
+    proposition = arguments[1]
+    check_answer(wanted)
+    check_proposition(disputation.letters, proposition)
+    return [1 if added_answers(disputation, proposition) == (1 << wanted) else 0]
+
+
+def rows_to_standings(disputation):
+    return rows_of_stock(disputation.known, disputation.standing, disputation.stock)
+
+
+def row_from_stock(disputation, arguments):
+    wanted = arguments[0]
+    proposition = arguments[1]
+    check_answer(wanted)
+    check_proposition(disputation.letters, proposition)
+    rows = rows_to_standings(disputation)
+    for standing in rows:
+        if right_answer(disputation.known, standing, proposition) == wanted:
+            return [len(rows[standing])] + rows[standing]
+    raise CannotBe()
+
+
+def least(disputation, arguments):
+    fewest = fewest_worlds(rows_to_standings(disputation))
+    return [how_many(fewest), fewest]
+
+
+def count_reach(disputation, arguments):
+    return [len(rows_to_standings(disputation))]
+
+
+def nth_reach(disputation, arguments):
+    return pick(sorted(rows_to_standings(disputation)), arguments[0])
+
+
+def row_that_leaves(disputation, arguments):
+    standing = arguments[0]
+    check_proposition(disputation.letters, standing)
+    rows = rows_to_standings(disputation)
+    if standing not in rows:
+        raise CannotBe()
+    return [len(rows[standing])] + rows[standing]
+
+
+def idle(disputation, arguments):
+    stock = disputation.stock
+    rows = rows_to_standings(disputation)
+    places = [place for place in range(len(stock)) if not changes_something(disputation.known, rows, stock[place])]
+    return [len(places)] + places
+
+
+def state(disputation, arguments):
+    return [disputation.letters, disputation.known, disputation.standing] + disputation.stock
+
+
+CALLS = (begin, propose, stand, learn, put_stock, tell_answer, concede, deny, may, counts, nth, count_false, nth_false,
+         surely, row_from_stock, least, count_reach, nth_reach, row_that_leaves, idle, state)
 
 
 def answer_call(disputation, number, arguments):
     if number != BEGIN and disputation.letters == 0:
         raise NotBegun()
-    if number >= len(CALLS):
-        raise NotImplementedError(f"call {number} is not built yet")
     return CALLS[number](disputation, arguments)
 
 

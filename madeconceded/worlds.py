@@ -1,4 +1,4 @@
-"""Right answers, and what can be made to get them.
+"""Right answers, what can be made to get them, and what can stand behind rows of a stock.
 
 A set of worlds, and so a proposition, is a whole number in which world w counts 1 << w.
 """
@@ -88,3 +88,32 @@ def shortest_row(letters, known, standing, wanted, proposition):
         if right_answer(known, behind, proposition) == wanted:
             return [first, proposition]
     return []
+
+
+def rows_of_stock(known, standing, stock):
+    # Shorter rows go first, of like ones the earlier place: so the first row to leave a set is the one to be told for
+    # it, and the sets come in the order of these rows.
+    rows = {standing: []}
+    waiting = [standing]
+    at = 0
+    while at < len(waiting):
+        before = waiting[at]
+        for place in range(len(stock)):
+            behind = standing_behind(known, before, stock[place])
+            if behind not in rows:
+                rows[behind] = rows[before] + [place]
+                waiting.append(behind)
+        at += 1
+    return rows
+
+
+def fewest_worlds(standings):
+    # min keeps to the first of like ones: rising, that is the lesser number.
+    return min(sorted(standings), key=how_many)
+
+
+def changes_something(known, standings, proposition):
+    for standing in standings:
+        if standing_behind(known, standing, proposition) != standing:
+            return True
+    return False

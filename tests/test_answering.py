@@ -3,11 +3,8 @@
 import random
 import unittest
 
-from madeconceded.disputations import Disputation, answer_or_refusal
-from tests.plainly import GREATEST, all_states, ask, ask_many, begin, behind, number_of, probe, propositions, right
-from tests.plainly import told, worlds_of
-
-FULL = {1: 3, 2: 15, 3: 255}
+from tests.plainly import FULL, GREATEST, all_states, ask, ask_many, begin, behind, number_of, probe, propositions
+from tests.plainly import right, worlds_of
 
 
 def samples(many):
@@ -235,12 +232,7 @@ class Stock(unittest.TestCase):
                              ask(("begin", 2, 9, 10), *probe(2))[1:])
 
     def kept(self, *calls):
-        """What the object keeps as its stock: no call of this stage tells it."""
-        disputation = Disputation()
-        for call in calls:
-            numbers = told(call)
-            answer_or_refusal(disputation, numbers[0], numbers[1:])
-        return disputation.stock
+        return ask(*calls, ("state",))[-1][3:]
 
     def test_what_the_stock_is(self):
         start = ("begin", 2, 9, 10)
@@ -260,7 +252,8 @@ class Stock(unittest.TestCase):
         start = [("begin", 2, 9, 10), ("stock", [3, 4])]
         self.assertEqual(self.kept(*start, ("begin", 2, 9, 10)), [])
         for other in (("propose", 9), ("stand", 5), ("learn", 8), ("answer", 3), ("concede", 2), ("deny", 2),
-                      ("may", 2), ("counts",), ("nth", 1, 0)):
+                      ("may", 2), ("counts",), ("nth", 1, 0), ("false",), ("falsenth", 0), ("surely", 0, 1),
+                      ("from", 1, 2), ("least",), ("reach",), ("reachnth", 0), ("stands", 2), ("idle",), ("state",)):
             self.assertEqual(self.kept(*start, other), [3, 4])
 
 

@@ -5,7 +5,7 @@ import io
 import unittest
 
 from madeconceded.disputations import answers
-from tests.plainly import GREATEST, NUMBERS, ask, parted, told
+from tests.plainly import GREATEST, ask, parted, told
 
 ARGUMENTS = {"begin": 3, "propose": 1, "stand": 1, "learn": 1, "answer": 1, "concede": 1, "deny": 1, "may": 1,
              "counts": 0, "nth": 2, "false": 0, "falsenth": 1, "surely": 2, "from": 2, "least": 0, "reach": 0,
@@ -15,6 +15,13 @@ FORTY = [("begin", 2, 15, 3), ("propose", 1), ("stock", []), ("stock", [1, 1, 2]
          ("deny", 2), ("may", 9), ("counts",), ("nth", 1, 0), ("stock", [1] * 255), ("stand", 0), ("learn", 12),
          ("begin", 9, 9, 9), ("concede", 2), ("deny", 1), ("counts",), ("nth", 3, 0), ("begin", 3, 15, 240),
          ("propose", 31)] * 2
+
+FORTY_MORE = [("false",), ("begin", 2, 3, 12), ("stock", [7, 11, 7, 5]), ("false",), ("falsenth", 1), ("falsenth", 3),
+              ("surely", 1, 12), ("surely", 3, 0), ("from", 1, 8), ("from", 1, 3), ("from", 0, 16), ("least",),
+              ("reach",), ("reachnth", 1), ("reachnth", 3), ("stands", 4), ("stands", 0), ("stands", 16), ("idle",),
+              ("state",), ("propose", 11), ("idle",), ("from", 1, 8), ("stands", 12), ("least",), ("state",),
+              ("begin", 1, 1, 0), ("state",), ("begin", 1, 3, 1), ("state",), ("reach",), ("reachnth", 0), ("idle",),
+              ("false",), ("surely", 1, 1), ("from", 2, 1), ("stands", 1), ("stock", [4]), ("falsenth", 0), ("state",)]
 
 
 class Refusing(list):
@@ -74,6 +81,17 @@ class HowTheyAreTold(unittest.TestCase):
         self.assertEqual(answers([0, 2, 3, 12, 8, 5]), [1, 2, 1, 7])
         self.assertEqual(answers([0, 2, 3, 12, 9]), [1, 2, 3, 12, 12, 4])
         self.assertEqual(answers([0, 2, 3, 12, 10, 1, 2]), [1, 2, 1, 6])
+        self.assertEqual(answers([0, 2, 3, 12, 11]), [1, 2, 1, 3])
+        self.assertEqual(answers([0, 2, 3, 12, 12, 1]), [1, 2, 1, 8])
+        self.assertEqual(answers([0, 2, 3, 12, 13, 1, 12, 13, 0, 12]), [1, 2, 1, 1, 1, 0])
+        self.assertEqual(answers([0, 2, 3, 12, 4, 2, 5, 7, 14, 1, 4, 14, 0, 4]), [1, 2, 1, 2, 2, 1, 1, 1, 0])
+        self.assertEqual(answers([0, 2, 3, 12, 4, 2, 5, 7, 15]), [1, 2, 1, 2, 2, 1, 4])
+        self.assertEqual(answers([0, 2, 3, 12, 4, 2, 5, 7, 16]), [1, 2, 1, 2, 1, 2])
+        self.assertEqual(answers([0, 2, 3, 12, 4, 2, 5, 7, 17, 1]), [1, 2, 1, 2, 1, 12])
+        self.assertEqual(answers([0, 2, 3, 12, 4, 2, 5, 7, 18, 4, 18, 12]), [1, 2, 1, 2, 2, 1, 1, 1, 0])
+        self.assertEqual(answers([0, 2, 3, 12, 4, 2, 5, 7, 19]), [1, 2, 1, 2, 2, 1, 0])
+        self.assertEqual(answers([0, 2, 3, 12, 4, 2, 5, 7, 20]), [1, 2, 1, 2, 5, 2, 3, 12, 5, 7])
+        self.assertEqual(answers([0, 2, 3, 12, 20]), [1, 2, 3, 2, 3, 12])
         self.assertEqual(answers([9, 0, 2, 0, 1, 0, 2, 1, 0]), [1, -11, 1, -22, 1, -33])
 
     def test_a_list_is_read_to_its_end_where_it_is_refused(self):
@@ -93,27 +111,37 @@ class HowTheyAreTold(unittest.TestCase):
                                       [2], [-22], [2, 1, 2], [1, 1], [12, 12, 4], [-22], [4], [1, 1]])
         self.assertEqual(found[20:], found[:20])
 
+    def test_forty_more_calls(self):
+        self.assertEqual(ask(*FORTY_MORE), [
+            [-11], [2], [4], [3], [8], [-33], [1], [-22], [1, 1], [-33], [-22], [1, 4], [3], [8], [-33], [1, 0], [-33],
+            [-22], [1, 3], [2, 3, 12, 7, 11, 7, 5], [1, 1], [4, 0, 1, 2, 3], [0], [-33], [1, 8],
+            [2, 3, 8, 7, 11, 7, 5], [-33], [2, 3, 8, 7, 11, 7, 5], [1], [1, 3, 1], [1], [1], [0], [0], [1], [-33],
+            [0], [-22], [-33], [1, 3, 1]])
+
     def test_whole_numbers_in_a_list(self):
-        found = answers(told(*FORTY))
-        self.assertIs(type(found), list)
-        for number in found:
-            self.assertIs(type(number), int)
+        for calls in (FORTY, FORTY_MORE):
+            found = answers(told(*calls))
+            self.assertIs(type(found), list)
+            for number in found:
+                self.assertIs(type(number), int)
 
     def test_only_a_refusal_is_below_zero_and_it_is_alone(self):
-        for part in parted(answers(told(*FORTY))):
+        for part in parted(answers(told(*FORTY))) + parted(answers(told(*FORTY_MORE))):
             if min(part) < 0:
                 self.assertIn(part, ([-11], [-22], [-33]))
 
 
 class NothingChangedOrKept(unittest.TestCase):
     def test_the_list_is_the_same_after_as_before(self):
-        numbers = told(*FORTY)
-        before = list(numbers)
-        answers(numbers)
-        self.assertEqual(numbers, before)
+        for calls in (FORTY, FORTY_MORE):
+            numbers = told(*calls)
+            before = list(numbers)
+            answers(numbers)
+            self.assertEqual(numbers, before)
 
     def test_the_list_is_not_changed_for_a_while_either(self):
-        self.assertEqual(answers(Refusing(told(*FORTY))), answers(told(*FORTY)))
+        for calls in (FORTY, FORTY_MORE):
+            self.assertEqual(answers(Refusing(told(*calls))), answers(told(*calls)))
 
     def test_the_answer_is_a_list_of_its_own(self):
         numbers = []
@@ -123,25 +151,19 @@ class NothingChangedOrKept(unittest.TestCase):
         self.assertEqual(answers([]), [])
 
     def test_the_same_list_twice_is_answered_alike(self):
-        numbers = told(*FORTY)
-        first = answers(numbers)
-        self.assertEqual(answers([9]), [1, -11])
-        self.assertEqual(answers(numbers), first)
-        self.assertEqual(answers([9]), [1, -11])
+        for calls in (FORTY, FORTY_MORE):
+            numbers = told(*calls)
+            first = answers(numbers)
+            self.assertEqual(answers([20]), [1, -11])
+            self.assertEqual(answers(numbers), first)
+            self.assertEqual(answers([9]), [1, -11])
 
     def test_nothing_is_printed(self):
         out, err = io.StringIO(), io.StringIO()
         with contextlib.redirect_stdout(out), contextlib.redirect_stderr(err):
             answers(told(*FORTY))
+            answers(told(*FORTY_MORE))
         self.assertEqual((out.getvalue(), err.getvalue()), ("", ""))
-
-
-class WhatIsNotBuiltYet(unittest.TestCase):
-    def test_it_is_said_and_not_answered_wrongly(self):
-        for name, number in NUMBERS.items():
-            if number > 10:
-                with self.assertRaises(NotImplementedError):
-                    ask(("begin", 1, 1, 1), (name, *[0] * ARGUMENTS[name]))
 
 
 if __name__ == "__main__":

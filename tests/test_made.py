@@ -1,35 +1,13 @@
-"""Point 2: concede, deny, may, counts, nth."""
+"""Point 2: concede, deny, may, counts, nth, false, falsenth, surely."""
 
 import random
 import unittest
 
-from tests.plainly import CONCEDED, DENIED, DOUBTED, GREATEST, all_states, all_that_can_be_made, ask, ask_many, begin
-from tests.plainly import behind, first_shortest, probe, propositions, right, worlds_of
+from tests.plainly import CONCEDED, DENIED, DOUBTED, FULL, GREATEST, all_false, all_states, all_that_can_be_made, ask
+from tests.plainly import ask_many, begin, first_row_to, first_shortest, number_of, probe, propositions
+from tests.plainly import samples_of_three, worlds_of
 
-FULL = {1: 3, 2: 15, 3: 255}
 NAMES = {CONCEDED: "concede", DENIED: "deny"}
-
-
-def samples(many, seed):
-    chosen = random.Random(seed)
-    found = []
-    while len(found) < many:
-        # Few worlds and many of them, so that what stands is now known not to be so, now may be so.
-        known = chosen.randint(1, 255) & chosen.choice((255, 15, 240, 85, chosen.randint(1, 255)))
-        standing = chosen.randint(1, 255) & chosen.choice((255, 15, 240, 85, chosen.randint(1, 255)))
-        if known and standing:
-            found.append((worlds_of(known), worlds_of(standing)))
-    return found
-
-
-def first_row_to(known, standing, wanted, number):
-    """Of three letters: through all rows of one and of two that end in it, in order; [] if none does it."""
-    if right(known, standing, number) == wanted:
-        return [number]
-    for first in propositions(3):
-        if right(known, behind(known, standing, first), number) == wanted:
-            return [first, number]
-    return []
 
 
 class ConcedeAndDeny(unittest.TestCase):
@@ -46,17 +24,17 @@ class ConcedeAndDeny(unittest.TestCase):
 
     def test_the_first_of_the_shortest_for_samples_of_three_letters(self):
         chosen = random.Random(3)
-        for known, standing in samples(60, 1):
+        for known, standing in samples_of_three(60, 1):
             for wanted, name in NAMES.items():
                 numbers = chosen.sample(range(256), 12)
                 found = ask_many([begin(3, known, standing)], [(name, number) for number in numbers])
                 for number, got in zip(numbers, found):
-                    row = first_row_to(known, standing, wanted, number)
+                    row = first_row_to(3, known, standing, wanted, number)
                     self.assertEqual(got, [len(row)] + row if row else [-33])
 
     def test_the_row_told_is_answered_so_when_it_is_proposed(self):
         states = [(1, state) for state in all_states(1)] + [(2, state) for state in all_states(2)]
-        states += [(3, state) for state in samples(60, 2)]
+        states += [(3, state) for state in samples_of_three(60, 2)]
         for letters, (known, standing) in states:
             start = begin(letters, known, standing)
             for wanted, name in NAMES.items():
@@ -140,7 +118,7 @@ class MayCountsNth(unittest.TestCase):
                 self.hold(letters, known, standing)
 
     def test_samples_of_three_letters(self):
-        for known, standing in samples(8, 4):
+        for known, standing in samples_of_three(8, 4):
             self.hold(3, known, standing)
 
     def test_longer_rows_get_no_more_than_two(self):
@@ -200,6 +178,131 @@ class MayCountsNth(unittest.TestCase):
             start = begin(2, known, standing)
             found = ask(start, ("may", 6), ("counts",), ("nth", 1, 0), ("nth", 0, 0), ("nth", 2, 0), *probe(2))
             self.assertEqual(found[6:], ask(start, *probe(2))[1:])
+
+
+class FalseFalsenthSurely(unittest.TestCase):
+    def hold(self, letters, known, standing):
+        start = begin(letters, known, standing)
+        false = all_false(letters, known, standing)
+        self.assertEqual(ask(start, ("false",))[1], [len(false)])
+        found = ask_many([start], [("falsenth", place) for place in range(len(false) + 2)])
+        self.assertEqual(found, [[number] for number in false] + [[-33], [-33]])
+        made = all_that_can_be_made(letters, known, standing)
+        for wanted in (DENIED, CONCEDED, DOUBTED):
+            found = ask_many([start], [("surely", wanted, number) for number in propositions(letters)])
+            for number in propositions(letters):
+                only = [given for given in made if number in made[given]] == [wanted]
+                self.assertEqual(found[number], [1 if only else 0])
+
+    def test_all_of_one_and_two_letters(self):
+        for letters in (1, 2):
+            for known, standing in all_states(letters):
+                self.hold(letters, known, standing)
+
+    def test_samples_of_three_letters(self):
+        for known, standing in samples_of_three(16, 5):
+            self.hold(3, known, standing)
+
+    def test_false_by_rows_of_one_and_two(self):
+        for letters in (1, 2):
+            for known, standing in all_states(letters):
+                rows = first_shortest(letters, known, standing)
+                false = sorted(number for given, number in rows
+                               if given == CONCEDED and not known & worlds_of(number))
+                found = ask_many([begin(letters, known, standing)], [("falsenth", place) for place in range(17)])
+                self.assertEqual(found, [[number] for number in false] + [[-33]] * (17 - len(false)))
+
+    def test_only_what_stands_known_not_to_be_so_has_any(self):
+        states = [(letters, state) for letters in (1, 2) for state in all_states(letters)]
+        states += [(3, state) for state in samples_of_three(200, 6)]
+        for letters, (known, standing) in states:
+            unknown = 2 ** letters - len(known)
+            # Whatever can go with it: all sets of unknown worlds but those that have none of what stands.
+            wanted = 0 if known & standing else 2 ** unknown - 2 ** (unknown - len(standing))
+            self.assertEqual(ask(begin(letters, known, standing), ("false",))[1], [wanted])
+
+    def test_what_falsenth_tells_can_be_made_conceded_and_is_known_not_to_be_so(self):
+        for known, standing in samples_of_three(60, 7):
+            start = begin(3, known, standing)
+            for got in ask_many([start], [("falsenth", place) for place in range(0, 128, 9)]):
+                if got != [-33]:
+                    self.assertEqual(got[0] & number_of(known), 0)
+                    row = ask(start, ("concede", got[0]))[1][1:]
+                    self.assertEqual(ask(start, *[("propose", number) for number in row])[-1][0], CONCEDED)
+
+    def test_ordinary_ones(self):
+        # One letter: world 0 is known, world 1 stands.
+        self.assertEqual(ask(("begin", 1, 1, 2), ("false",), ("falsenth", 0), ("falsenth", 1), ("surely", 1, 2),
+                             ("surely", 0, 2), ("surely", 0, 1), ("surely", 2, 1))[1:],
+                         [[1], [2], [-33], [1], [0], [1], [0]])
+        # Two letters: worlds 0 and 1 are known, 2 and 3 stand; 4 can be made conceded and denied, 5 doubted too.
+        self.assertEqual(ask(("begin", 2, 3, 12), ("false",), ("falsenth", 0), ("falsenth", 1), ("falsenth", 2),
+                             ("falsenth", 3), ("surely", 1, 12), ("surely", 0, 12), ("surely", 2, 12),
+                             ("surely", 1, 4), ("surely", 0, 4), ("surely", 2, 5), ("surely", 0, 3))[1:],
+                         [[3], [4], [8], [12], [-33], [1], [0], [0], [0], [0], [0], [1]])
+        # Three letters: worlds 6 and 7 stand, all but them are known.
+        self.assertEqual(ask(("begin", 3, 63, 192), ("false",), ("falsenth", 0), ("falsenth", 1), ("falsenth", 2),
+                             ("falsenth", 3), ("surely", 1, 192), ("surely", 0, 63), ("surely", 2, 65))[1:],
+                         [[3], [64], [128], [192], [-33], [1], [1], [0]])
+        # Surely doubted: what may be so stands, and known worlds of it are on both sides.
+        self.assertEqual(ask(("begin", 3, 255, 255), ("surely", 2, 15), ("surely", 1, 15), ("surely", 0, 15))[1:],
+                         [[1], [0], [0]])
+
+    def test_always_so_and_never_so(self):
+        for letters, full in FULL.items():
+            for known in (1, 2, full):
+                for standing in (1, 2, full):
+                    found = ask(("begin", letters, known, standing), ("surely", 1, full), ("surely", 0, full),
+                                ("surely", 2, full), ("surely", 1, 0), ("surely", 0, 0), ("surely", 2, 0))
+                    self.assertEqual(found[1:], [[1], [0], [0], [0], [1], [0]])
+
+    def test_one_world_that_stands(self):
+        for number in propositions(2):
+            so = number // 4 % 2
+            for known in (4, 11, 15):
+                self.assertEqual(ask(("begin", 2, known, 4), ("surely", 1, number), ("surely", 0, number),
+                                     ("surely", 2, number))[1:], [[so], [1 - so], [0]])
+        self.assertEqual(ask(("begin", 2, 11, 4), ("false",), ("falsenth", 0), ("begin", 2, 15, 4), ("false",))[1:],
+                         [[1], [4], [1], [0]])
+
+    def test_one_that_follows_already_and_one_that_is_known_but_against_it(self):
+        self.assertEqual(ask(("begin", 2, 12, 3), ("surely", 1, 3), ("surely", 0, 12), ("surely", 1, 12))[1:],
+                         [[1], [1], [0]])
+
+    def test_what_is_learnt_between(self):
+        self.assertEqual(ask(("begin", 2, 14, 3), ("false",), ("falsenth", 0), ("surely", 1, 1), ("learn", 12),
+                             ("false",), ("falsenth", 0), ("falsenth", 2), ("surely", 0, 1), ("learn", 4),
+                             ("false",), ("falsenth", 5), ("falsenth", 6))[1:],
+                         [[0], [-33], [0], [2], [3], [1], [3], [0], [1], [6], [11], [-33]])
+
+    def test_the_stock_is_not_asked(self):
+        calls = [("false",), ("falsenth", 1), ("surely", 0, 4), ("surely", 1, 12), ("counts",), ("may", 5)]
+        start = ("begin", 2, 3, 12)
+        for stock in ([], [7], [4, 8, 12]):
+            self.assertEqual(ask(start, ("stock", stock), *calls)[2:], ask(start, *calls)[1:])
+
+    def test_refusals(self):
+        for letters, full in FULL.items():
+            start = ("begin", letters, 1, 2)
+            for wanted, number in ((3, 0), (4, full), (GREATEST, 1), (0, full + 1), (1, full + 1), (2, 256),
+                                   (1, GREATEST), (3, full + 1), (GREATEST, GREATEST)):
+                self.assertEqual(ask(start, ("surely", wanted, number))[1], [-22])
+            many = ask(start, ("false",))[1][0]
+            # Which one is no proposition: above them there's none, too.
+            for place in (many, full, full + 1, 256, 2147483648, GREATEST):
+                self.assertEqual(ask(start, ("falsenth", place))[1], [-33])
+            self.assertEqual(ask(("begin", letters, full, 2), ("falsenth", 0), ("falsenth", GREATEST))[1:],
+                             [[-33], [-33]])
+
+    def test_answers_and_refusals_change_nothing(self):
+        for letters, full in FULL.items():
+            for known, standing in ((1, 3), (3, 2), (2, 1), (1, full - 1)):
+                start = [("begin", letters, known, standing), ("stock", [1, full, 1])]
+                for call in (("false",), ("falsenth", 0), ("falsenth", GREATEST), ("surely", 1, 2), ("surely", 0, 0),
+                             ("surely", 3, 0), ("surely", 0, full + 1), ("surely", GREATEST, GREATEST)):
+                    found = ask(*start, ("state",), call, ("state",))
+                    self.assertEqual(found[2], [letters, known, standing, 1, full, 1])
+                    self.assertEqual(found[4], found[2])
 
 
 if __name__ == "__main__":
